@@ -1,0 +1,1 @@
+"""Interlacing polynomials: exact comparison of the real roots of rational polynomials."""
