@@ -1,29 +1,12 @@
-"""The calls that ask about the roots of polynomials and change nothing. Each gives back what is answered."""
+"""The calls that ask how the roots of polynomials lie and how many there are.
 
-from interlaced.comparisons import commonly_interlaced, real_rooted, second_interlaces_first
-from interlaced.fraction_polynomials import whole_multiple
+They change nothing. Each gives back what is answered.
+"""
+
+from interlaced.comparisons import commonly_interlaced, proportional, real_rooted, second_interlaces_first
 from interlaced.instance import SLOT_COUNT
-from interlaced.refusals import NO_SUCH_SLOT, ZERO_POLYNOMIAL, refused
-from interlaced.roots import joint_pairs
-
-
-def is_zero_in(instance, slot):
-    """Whether the polynomial in a slot is zero."""
-    return len(instance.polynomial_in(slot)) == 0
-
-
-def whole_in(instance, slot):
-    """Whole coefficients with the roots of the polynomial in a slot."""
-    return whole_multiple(instance.polynomial_in(slot))
-
-
-def refusal_for(instance, slots):
-    """The refusal if a slot does not exist or holds the zero polynomial; else an empty list."""
-    if instance.lacks_slot(slots):
-        return refused(NO_SUCH_SLOT)
-    if any([is_zero_in(instance, slot) for slot in slots]):
-        return refused(ZERO_POLYNOMIAL)
-    return []
+from interlaced.refusals import NO_SUCH_ROOT, argument_refusal, refused, slot_refusal
+from interlaced.roots import CountedRoots, joint_pairs
 
 
 def truth_answer(holds):
@@ -33,18 +16,18 @@ def truth_answer(holds):
 
 def is_real_rooted(instance, slot):
     """Whether the polynomial in a slot is real-rooted."""
-    refusal = refusal_for(instance, [slot])
+    refusal = slot_refusal(instance, [slot])
     if len(refusal) > 0:
         return refusal
-    return truth_answer(real_rooted(whole_in(instance, slot)))
+    return truth_answer(real_rooted(instance.whole_in(slot)))
 
 
 def joint_multiplicities(instance, first, second):
     """The number of joint roots, then the two multiplicities of each, in ascending order."""
-    refusal = refusal_for(instance, [first, second])
+    refusal = slot_refusal(instance, [first, second])
     if len(refusal) > 0:
         return refusal
-    pairs = joint_pairs(whole_in(instance, first), whole_in(instance, second))
+    pairs = joint_pairs(instance.whole_in(first), instance.whole_in(second))
     numbers = [len(pairs)]
     for first_multiplicity, second_multiplicity in pairs:
         numbers.append(first_multiplicity)
@@ -54,25 +37,67 @@ def joint_multiplicities(instance, first, second):
 
 def interlaces(instance, first, second):
     """Whether the second polynomial interlaces the first one."""
-    refusal = refusal_for(instance, [first, second])
+    refusal = slot_refusal(instance, [first, second])
     if len(refusal) > 0:
         return refusal
-    return truth_answer(second_interlaces_first(whole_in(instance, first), whole_in(instance, second)))
+    return truth_answer(second_interlaces_first(instance.whole_in(first), instance.whole_in(second)))
 
 
 def have_common_interlacing(instance, first, second):
     """Whether both polynomials have a common interlacing."""
-    refusal = refusal_for(instance, [first, second])
+    refusal = slot_refusal(instance, [first, second])
     if len(refusal) > 0:
         return refusal
-    return truth_answer(commonly_interlaced(whole_in(instance, first), whole_in(instance, second)))
+    return truth_answer(commonly_interlaced(instance.whole_in(first), instance.whole_in(second)))
 
 
 def all_have_common_interlacing(instance):
     """1 if each pair of polynomials that are not zero has a common interlacing, else 0 and the first that has none."""
-    filled = [slot for slot in range(SLOT_COUNT) if not is_zero_in(instance, slot)]
+    filled = [slot for slot in range(SLOT_COUNT) if not instance.is_zero_in(slot)]
     for first in filled:
         for second in filled:
-            if first < second and not commonly_interlaced(whole_in(instance, first), whole_in(instance, second)):
+            if first < second and not commonly_interlaced(instance.whole_in(first), instance.whole_in(second)):
                 return [0, first, second]
     return [1]
+
+
+def are_proportional(instance, first, second):
+    """Whether the polynomials are equal after each is divided by its last coefficient."""
+    refusal = slot_refusal(instance, [first, second])
+    if len(refusal) > 0:
+        return refusal
+    return truth_answer(proportional(instance.whole_in(first), instance.whole_in(second)))
+
+
+def count_roots_above(instance, slot, numerator, denominator):
+    """The number of roots above the argument, counted with multiplicity."""
+    refusal = argument_refusal(instance, [slot], numerator, denominator)
+    if len(refusal) > 0:
+        return refusal
+    return [CountedRoots(instance.whole_in(slot)).count_above(numerator, denominator)]
+
+
+def lead_above(instance, first, second, numerator, denominator):
+    """0, then how many roots more the first polynomial has above the argument than the second."""
+    refusal = argument_refusal(instance, [first, second], numerator, denominator)
+    if len(refusal) > 0:
+        return refusal
+    first_count = CountedRoots(instance.whole_in(first)).count_above(numerator, denominator)
+    second_count = CountedRoots(instance.whole_in(second)).count_above(numerator, denominator)
+    return [0, first_count - second_count]
+
+
+def compare_greatest_roots(instance, first, second):
+    """1 or 2 if the greatest joint root is a root of the first or the second polynomial only, 0 if of both."""
+    refusal = slot_refusal(instance, [first, second])
+    if len(refusal) > 0:
+        return refusal
+    pairs = joint_pairs(instance.whole_in(first), instance.whole_in(second))
+    if len(pairs) == 0:
+        return refused(NO_SUCH_ROOT)
+    greatest = pairs[-1]
+    if greatest[1] == 0:
+        return [1]
+    if greatest[0] == 0:
+        return [2]
+    return [0]

@@ -57,6 +57,11 @@ def sum_of_multiples(first, first_factor, second, second_factor):
     return without_end_zeros(fractions)
 
 
+def fraction_derivative(polynomial):
+    """The derivative."""
+    return [lowest_terms(power * polynomial[power][0], polynomial[power][1]) for power in range(1, len(polynomial))]
+
+
 def is_too_large(polynomial):
     """Whether a numerator or a denominator is above 10 ** 30 in absolute value."""
     limit = 10 ** 30

@@ -1,5 +1,7 @@
 """What is kept from one call to the next."""
 
+from interlaced.fraction_polynomials import whole_multiple
+
 SLOT_COUNT = 4
 
 
@@ -24,6 +26,14 @@ class Instance:
     def polynomial_in(self, slot):
         """The polynomial in a slot."""
         return self.polynomials[slot]
+
+    def is_zero_in(self, slot):
+        """Whether the polynomial in a slot is zero."""
+        return len(self.polynomials[slot]) == 0
+
+    def whole_in(self, slot):
+        """Whole coefficients with the roots of the polynomial in a slot."""
+        return whole_multiple(self.polynomials[slot])
 
     def store(self, slot, polynomial):
         """Puts a polynomial into a slot."""

@@ -82,17 +82,29 @@ def root_bound(polynomial):
     return greatest // abs(polynomial[-1]) + 2
 
 
-def count_all_roots(polynomial):
-    """The number of all roots, counted with multiplicity."""
-    chains = layer_chains(polynomial)
-    bound = root_bound(polynomial)
-    return total_variations(chains, -bound, 1) - total_variations(chains, bound, 1)
-
-
 def count_in_span(chains, span):
     """The number of roots in a span, counted with multiplicity, for the chains of all layers."""
     below = total_variations(chains, span.low, span.scale)
     return below - total_variations(chains, span.high, span.scale)
+
+
+class CountedRoots:
+    """The roots of one polynomial, each counted as often as its multiplicity."""
+
+    def __init__(self, polynomial):
+        self.chains = layer_chains(polynomial)
+        self.bound = root_bound(polynomial)
+        self.at_bound = total_variations(self.chains, self.bound, 1)
+        self.total = self.count_above(-self.bound, 1)
+
+    def count_above(self, numerator, denominator):
+        """The number of roots above numerator / denominator."""
+        return total_variations(self.chains, numerator, denominator) - self.at_bound
+
+    def count_below(self, numerator, denominator):
+        """The number of roots below numerator / denominator."""
+        values = [scaled_value(chain[0], numerator, denominator) for chain in self.chains]
+        return self.total - self.count_above(numerator, denominator) - values.count(0)
 
 
 class JointRoots:

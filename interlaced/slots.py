@@ -1,10 +1,13 @@
 """A list of calls on a new instance, and the list of what is answered."""
 
 from interlaced.asking import (
-    all_have_common_interlacing, have_common_interlacing, interlaces, is_real_rooted, joint_multiplicities)
+    all_have_common_interlacing, are_proportional, compare_greatest_roots, count_roots_above,
+    have_common_interlacing, interlaces, is_real_rooted, joint_multiplicities, lead_above)
 from interlaced.instance import Instance
+from interlaced.placing import first_large_lead, interlacing_interval, min_root_gap
 from interlaced.refusals import NOT_CREATED, refused
-from interlaced.storing import add_multiples, create, get_polynomial, set_polynomial, set_roots
+from interlaced.storing import (
+    add_multiples, create, derivative, get_polynomial, set_polynomial, set_roots, subtract_multiples, summary)
 
 # How many whole numbers each call has ahead of its row, by the call's number.
 NUMBER_COUNTS = (0, 2, 2, 1, 1, 2, 2, 2, 0, 5, 5, 2, 3, 2, 2, 3, 4, 2, 4, 0)
@@ -12,18 +15,24 @@ CALLS_WITH_ROW = (1, 2)
 
 
 def storing_answer(instance, call, numbers, row):
-    """The answer of a call that stores a polynomial or gives one back."""
+    """The answer of a call that stores a polynomial or tells what is stored."""
     if call == 1:
         return set_polynomial(instance, numbers[0], numbers[1], row)
     if call == 2:
         return set_roots(instance, numbers[0], numbers[1], row)
     if call == 3:
         return get_polynomial(instance, numbers[0])
-    return add_multiples(instance, numbers[0], numbers[1], numbers[2], numbers[3], numbers[4])
+    if call == 9:
+        return add_multiples(instance, numbers[0], numbers[1], numbers[2], numbers[3], numbers[4])
+    if call == 10:
+        return subtract_multiples(instance, numbers[0], numbers[1], numbers[2], numbers[3], numbers[4])
+    if call == 11:
+        return derivative(instance, numbers[0], numbers[1])
+    return summary(instance)
 
 
 def asking_answer(instance, call, numbers):
-    """The answer of a call that asks about roots."""
+    """The answer of a call that asks how roots lie and how many there are."""
     if call == 4:
         return is_real_rooted(instance, numbers[0])
     if call == 5:
@@ -32,7 +41,24 @@ def asking_answer(instance, call, numbers):
         return interlaces(instance, numbers[0], numbers[1])
     if call == 7:
         return have_common_interlacing(instance, numbers[0], numbers[1])
-    return all_have_common_interlacing(instance)
+    if call == 8:
+        return all_have_common_interlacing(instance)
+    if call == 14:
+        return are_proportional(instance, numbers[0], numbers[1])
+    if call == 15:
+        return count_roots_above(instance, numbers[0], numbers[1], numbers[2])
+    if call == 16:
+        return lead_above(instance, numbers[0], numbers[1], numbers[2], numbers[3])
+    return compare_greatest_roots(instance, numbers[0], numbers[1])
+
+
+def placing_answer(instance, call, numbers):
+    """The answer of a call that tells where roots lie."""
+    if call == 12:
+        return first_large_lead(instance, numbers[0], numbers[1], numbers[2])
+    if call == 13:
+        return min_root_gap(instance, numbers[0], numbers[1])
+    return interlacing_interval(instance, numbers[0], numbers[1], numbers[2], numbers[3])
 
 
 def call_answer(instance, call, numbers, row):
@@ -41,11 +67,11 @@ def call_answer(instance, call, numbers, row):
         return create(instance)
     if not instance.is_created():
         return refused(NOT_CREATED)
-    if call in (1, 2, 3, 9):
+    if call in (1, 2, 3, 9, 10, 11, 19):
         return storing_answer(instance, call, numbers, row)
-    if call in (4, 5, 6, 7, 8):
-        return asking_answer(instance, call, numbers)
-    raise NotImplementedError(f"call {call}")
+    if call in (12, 13, 18):
+        return placing_answer(instance, call, numbers)
+    return asking_answer(instance, call, numbers)
 
 
 def answers(calls):

@@ -1,6 +1,8 @@
-"""The calls that store a polynomial or give one back. Each gives back what is answered."""
+"""The calls that store polynomials or tell what is stored. Each gives back what is answered."""
 
-from interlaced.fraction_polynomials import as_numbers, from_numerators, from_roots, is_too_large, sum_of_multiples
+from interlaced.fraction_polynomials import (
+    as_numbers, fraction_derivative, from_numerators, from_roots, is_too_large, sum_of_multiples)
+from interlaced.instance import SLOT_COUNT
 from interlaced.refusals import NO_SUCH_SLOT, OUT_OF_RANGE, TOO_LARGE, refused
 
 MOST_COEFFICIENTS = 7
@@ -56,15 +58,49 @@ def get_polynomial(instance, slot):
     return as_numbers(instance.polynomial_in(slot))
 
 
+def stored_if_small(instance, slot, polynomial):
+    """Stores a result, if it is not too large."""
+    if is_too_large(polynomial):
+        return refused(TOO_LARGE)
+    return stored(instance, slot, polynomial)
+
+
+def combination_refusal(instance, slots, factors):
+    """The refusal if a slot does not exist or a factor is too great; else an empty list."""
+    if instance.lacks_slot(slots):
+        return refused(NO_SUCH_SLOT)
+    if max(factors) > GREATEST_FACTOR:
+        return refused(OUT_OF_RANGE)
+    return []
+
+
 def add_multiples(instance, first, first_factor, second, second_factor, target):
     """Stores first_factor * first + second_factor * second."""
-    if instance.lacks_slot([first, second, target]):
-        return refused(NO_SUCH_SLOT)
-    if first_factor > GREATEST_FACTOR or second_factor > GREATEST_FACTOR:
-        return refused(OUT_OF_RANGE)
+    refusal = combination_refusal(instance, [first, second, target], [first_factor, second_factor])
+    if len(refusal) > 0:
+        return refusal
     left = instance.polynomial_in(first)
     right = instance.polynomial_in(second)
-    result = sum_of_multiples(left, first_factor, right, second_factor)
-    if is_too_large(result):
-        return refused(TOO_LARGE)
-    return stored(instance, target, result)
+    return stored_if_small(instance, target, sum_of_multiples(left, first_factor, right, second_factor))
+
+
+def subtract_multiples(instance, first, first_factor, second, second_factor, target):
+    """Stores first_factor * first - second_factor * second."""
+    refusal = combination_refusal(instance, [first, second, target], [first_factor, second_factor])
+    if len(refusal) > 0:
+        return refusal
+    left = instance.polynomial_in(first)
+    right = instance.polynomial_in(second)
+    return stored_if_small(instance, target, sum_of_multiples(left, first_factor, right, -second_factor))
+
+
+def derivative(instance, source, target):
+    """Stores the derivative."""
+    if instance.lacks_slot([source, target]):
+        return refused(NO_SUCH_SLOT)
+    return stored_if_small(instance, target, fraction_derivative(instance.polynomial_in(source)))
+
+
+def summary(instance):
+    """The number of slots, then the number of coefficients in each."""
+    return [SLOT_COUNT] + [len(instance.polynomial_in(slot)) for slot in range(SLOT_COUNT)]

@@ -4,7 +4,7 @@ The roots here come from the factors alone, never from the program's own way to 
 """
 
 from collections import Counter
-from math import sqrt
+from math import floor, sqrt
 
 
 class Factor:
@@ -77,22 +77,73 @@ def joint_pairs(first, second):
 
 def leads(first, second):
     """By the words of the document: for each joint root, the roots at least this great are counted."""
-    found = []
+    found = {}
     for root in set(first.roots) | set(second.roots):
         over = sum(count for other, count in first.roots.items() if other >= root)
         under = sum(count for other, count in second.roots.items() if other >= root)
-        found.append(over - under)
+        found[root] = over - under
     return found
 
 
 def interlaces(first, second):
     real = first.is_real_rooted() and second.is_real_rooted()
-    return real and all(lead in (0, 1) for lead in leads(first, second))
+    return real and all(lead in (0, 1) for lead in leads(first, second).values())
 
 
 def have_common_interlacing(first, second):
     real = first.is_real_rooted() and second.is_real_rooted()
-    return real and first.degree == second.degree and all(lead in (-1, 0, 1) for lead in leads(first, second))
+    near = all(lead in (-1, 0, 1) for lead in leads(first, second).values())
+    return real and first.degree == second.degree and near
+
+
+def floor_of(root, bits):
+    """The floor of a root; whole roots are exact here, and the others must be far enough from whole numbers."""
+    scaled = root * 2 ** bits
+    if root != int(root) and abs(scaled - round(scaled)) < 1e-6:
+        raise AssertionError("the floor of this root can't be told here")
+    return floor(scaled)
+
+
+def floors(known, bits):
+    """The floors of all roots in ascending order, each root as often as its multiplicity."""
+    return [floor_of(root, bits) for root in sorted(known.roots.elements())]
+
+
+def first_large_lead(first, second, bits):
+    large = [root for root, lead in leads(first, second).items() if lead < -1 or lead > 1]
+    return [0, floor_of(max(large), bits)] if large else [-34]
+
+
+def min_root_gap(known, bits):
+    different = [floor_of(root, bits) for root in sorted(known.roots)]
+    return [0, min(high - low for low, high in zip(different, different[1:]))] if len(different) > 1 else [-34]
+
+
+def are_proportional(first, second):
+    """Two products of such factors are proportional if the factors are the same."""
+    return sorted(factor.coefficients for factor in first.factors) == sorted(
+        factor.coefficients for factor in second.factors)
+
+
+def count_above(known, argument):
+    return sum(count for root, count in known.roots.items() if root > argument)
+
+
+def compare_greatest_roots(first, second):
+    together = set(first.roots) | set(second.roots)
+    if not together:
+        return [-34]
+    in_first, in_second = max(together) in first.roots, max(together) in second.roots
+    return [0] if in_first and in_second else [1] if in_first else [2]
+
+
+def interlacing_interval(first, second, index, bits):
+    if not have_common_interlacing(first, second):
+        return [-34]
+    if first.degree <= index + 1:
+        return [-2]
+    one, other = floors(first, bits), floors(second, bits)
+    return [0, max(one[index], other[index]), min(one[index + 1], other[index + 1])]
 
 
 def chosen(source, factors, most_degree, leads_allowed=(1, -1, 2, -3)):

@@ -43,6 +43,46 @@ def add_multiples(first, first_factor, second, second_factor, target):
     return [9, first, first_factor, second, second_factor, target]
 
 
+def subtract_multiples(first, first_factor, second, second_factor, target):
+    return [10, first, first_factor, second, second_factor, target]
+
+
+def derivative(source, target):
+    return [11, source, target]
+
+
+def first_large_lead(first, second, bits):
+    return [12, first, second, bits]
+
+
+def min_root_gap(slot, bits):
+    return [13, slot, bits]
+
+
+def are_proportional(first, second):
+    return [14, first, second]
+
+
+def count_roots_above(slot, numerator, denominator):
+    return [15, slot, numerator, denominator]
+
+
+def lead_above(first, second, numerator, denominator):
+    return [16, first, second, numerator, denominator]
+
+
+def compare_greatest_roots(first, second):
+    return [17, first, second]
+
+
+def interlacing_interval(first, second, k, bits):
+    return [18, first, second, k, bits]
+
+
+def summary():
+    return [19]
+
+
 def get_all():
     """Four calls that show all slots."""
     return [get_polynomial(slot) for slot in range(4)]

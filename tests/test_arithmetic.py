@@ -4,9 +4,9 @@ import math
 import unittest
 from itertools import product
 
-from interlaced.fraction_polynomials import from_roots, lowest_terms
+from interlaced.fraction_polynomials import from_roots, is_too_large, lowest_terms
 from interlaced.whole_numbers import greatest_divisor, least_multiple
-from interlaced.whole_polynomials import common_divisor, exact_quotient, primitive_part, remainder_of
+from interlaced.whole_polynomials import common_divisor, exact_quotient, primitive_part, remainder_of, scaled_value
 
 
 class WholeNumbers(unittest.TestCase):
@@ -39,6 +39,12 @@ class WholePolynomials(unittest.TestCase):
         self.assertEqual(exact_quotient([0, 0, 5], [0, 1]), [0, 5])
         self.assertEqual(exact_quotient([0, 0, 0, 2], [1]), [0, 0, 0, 2])
 
+    def test_scaled_value(self):
+        self.assertEqual(scaled_value([1, -2, 3], 5, 7), 49 - 70 + 75)
+        self.assertEqual(scaled_value([1, -2, 3], -5, 7), 49 + 70 + 75)
+        self.assertEqual(scaled_value([-4], 5, 7), -4)
+        self.assertEqual(scaled_value([-3, 2], 3, 2), 0)
+
     def test_common_divisor(self):
         self.assertEqual([abs(number) for number in common_divisor([2, -3, 1], [6, -5, 1])], [2, 1])
         self.assertEqual(len(common_divisor([2, -3, 1], [12, -7, 1])), 1)
@@ -51,6 +57,15 @@ class Fractions(unittest.TestCase):
         self.assertEqual(lowest_terms(0, 12), (0, 1))
         self.assertEqual(lowest_terms(-8, 12), (-2, 3))
         self.assertEqual(lowest_terms(9, 3), (3, 1))
+
+    def test_too_large(self):
+        # A denominator of just 10 ** 30 can't be reached by the calls.
+        top = 10 ** 30
+        for small in ([], [(top, 1)], [(-top, 1)], [(1, top)], [(-1, top), (0, 1), (top, top - 1)]):
+            self.assertFalse(is_too_large(small))
+        for large in ((top + 1, 1), (-top - 1, 1), (1, top + 1), (-1, top + 1), (top + 1, top + 2)):
+            self.assertTrue(is_too_large([large]))
+            self.assertTrue(is_too_large([(0, 1), large, (1, 1)]))
 
     def test_lists_given_are_not_changed(self):
         row = [3, 1, 2]

@@ -3,42 +3,10 @@
 import unittest
 
 import session as s
-
-FAR = 4294967295
+from checks import FAR, Asking, polynomials, roots
 
 # Polynomials without multiple roots, with them, with roots that are not real, and constants.
 VARIOUS = [[5], [-5], [0, 1], [1, -2], [-2, 0, 1], [1, 0, 1], [0, 0, 1], [2, -3, 1], [0, 0, 0, 0, 0, 0, -7]]
-
-
-def polynomials(*rows):
-    """Calls that set slot 0, 1, .. to whole coefficients."""
-    return [s.set_polynomial(slot, 1, row) for slot, row in enumerate(rows)]
-
-
-def roots(*rows):
-    """Calls that set slot 0, 1, .. by whole roots."""
-    return [s.set_roots(slot, 1, row) for slot, row in enumerate(rows)]
-
-
-class Asking(unittest.TestCase):
-    def assert_all(self, setting, call, expected):
-        self.assertEqual(s.last(*setting, call), expected)
-
-    def assert_nothing_changes(self, call):
-        """The slots are the same behind the call as ahead of it, whatever it answers."""
-        setting = [s.set_roots(0, 3, [1, 2]), s.set_polynomial(1, 7, [5, 0, -9]), s.set_roots(3, 1, [1, 1])]
-        found = s.after_create(*setting, *s.get_all(), call, *s.get_all())
-        self.assertEqual(found[3:7], found[8:])
-
-    def assert_pair_errors(self, ask):
-        """The errors of a call with two slots, in their order."""
-        setting = roots([1])
-        for first, second in ((4, 0), (0, 4), (4, 4), (FAR, 0), (0, FAR), (4, 1), (1, 4), (2, 5)):
-            self.assert_all(setting, ask(first, second), [-2])
-            self.assert_nothing_changes(ask(first, second))
-        for first, second in ((1, 0), (0, 1), (1, 1), (2, 3)):
-            self.assert_all(setting, ask(first, second), [-33])
-        self.assert_nothing_changes(ask(0, 2))
 
 
 class IsRealRooted(Asking):

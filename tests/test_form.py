@@ -16,16 +16,16 @@ ONE_OF_EACH = [
     s.have_common_interlacing(9, 9),
     s.all_have_common_interlacing(),
     s.add_multiples(9, 1001, 9, 1001, 9),
-    [10, 9, 1001, 9, 1001, 9],
-    [11, 9, 9],
-    [12, 9, 9, 21],
-    [13, 9, 21],
-    [14, 9, 9],
-    [15, 9, 0, 0],
-    [16, 9, 9, 0, 0],
-    [17, 9, 9],
-    [18, 9, 9, 0, 21],
-    [19],
+    s.subtract_multiples(9, 1001, 9, 1001, 9),
+    s.derivative(9, 9),
+    s.first_large_lead(9, 9, 21),
+    s.min_root_gap(9, 21),
+    s.are_proportional(9, 9),
+    s.count_roots_above(9, 2000000, 0),
+    s.lead_above(9, 9, -2000000, 0),
+    s.compare_greatest_roots(9, 9),
+    s.interlacing_interval(9, 9, 9, 21),
+    s.summary(),
 ]
 
 
@@ -59,6 +59,10 @@ class Form(unittest.TestCase):
             s.set_roots(0, 1, [0, 2]), s.set_roots(1, 1, [1]), s.is_real_rooted(0), s.joint_multiplicities(0, 1),
             s.interlaces(0, 1), s.interlaces(1, 0), s.have_common_interlacing(0, 0),
             s.have_common_interlacing(0, 1), s.all_have_common_interlacing(), s.get_polynomial(9),
+            s.add_multiples(0, 1, 1, 2, 2), s.subtract_multiples(0, 1, 1, 2, 2), s.derivative(0, 3),
+            s.first_large_lead(0, 3, 2), s.first_large_lead(0, 2, 2), s.min_root_gap(0, 20),
+            s.are_proportional(0, 1), s.are_proportional(1, 3), s.count_roots_above(0, 1, 3),
+            s.lead_above(1, 0, -1, 3), s.compare_greatest_roots(0, 1), s.interlacing_interval(0, 0, 0, 9), s.summary(),
         ]
         given = answers(s.handed_in([s.create()] + calls))
         self.assertIs(type(given), list)
@@ -70,7 +74,9 @@ class NothingIsKept(unittest.TestCase):
         s.create(), s.set_polynomial(0, 7, [3, -5, 0, 2, 0]), s.set_roots(1, 3, [1, 1, -2]),
         s.add_multiples(0, 2, 1, 3, 1), s.joint_multiplicities(0, 1), s.interlaces(0, 1),
         s.have_common_interlacing(0, 1), s.all_have_common_interlacing(), s.is_real_rooted(0),
-        s.set_polynomial(0, 1, [1] * 8), s.get_polynomial(0),
+        s.set_polynomial(0, 1, [1] * 8), s.get_polynomial(0), s.subtract_multiples(0, 2, 1, 3, 2), s.derivative(1, 3),
+        s.first_large_lead(1, 0, 4), s.min_root_gap(1, 4), s.are_proportional(0, 1), s.count_roots_above(1, -1, 2),
+        s.lead_above(0, 1, -1, 2), s.compare_greatest_roots(0, 1), s.interlacing_interval(1, 1, 1, 4), s.summary(),
     ])
 
     def test_list_handed_in_is_not_changed(self):
@@ -89,9 +95,9 @@ class NothingIsKept(unittest.TestCase):
         self.assertEqual(answers(Untouched(self.calls)), answers(list(self.calls)))
 
     def test_same_list_twice(self):
-        calls = list(self.calls)
-        first = answers(calls)
-        self.assertEqual(answers(calls), first)
+        for calls in (list(self.calls), s.handed_in([s.create()] + ONE_OF_EACH)):
+            first = answers(calls)
+            self.assertEqual(answers(calls), first)
 
     def test_list_given_back_is_its_own(self):
         first = answers(self.calls)

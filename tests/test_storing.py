@@ -1,24 +1,11 @@
-"""set_polynomial, set_roots, get_polynomial and add_multiples."""
+"""set_polynomial, set_roots, get_polynomial, add_multiples and summary."""
 
 import unittest
 from fractions import Fraction
 from itertools import product
 
 import session as s
-
-FAR = 4294967295
-TOP = 10 ** 30
-
-
-def shown(fractions):
-    """The answer for a polynomial of these coefficients, worked out with Python's own fractions."""
-    kept = list(fractions)
-    while kept and kept[-1] == 0:
-        kept.pop()
-    numbers = [len(kept)]
-    for fraction in kept:
-        numbers += [fraction.numerator, fraction.denominator]
-    return numbers
+from checks import FAR, TOP, Kept, shown
 
 
 def product_of_factors(denominator, roots):
@@ -29,15 +16,6 @@ def product_of_factors(denominator, roots):
         lowered = [Fraction(root, denominator) * value for value in found] + [Fraction(0)]
         found = [left - right for left, right in zip(raised, lowered)]
     return found
-
-
-class Kept(unittest.TestCase):
-    def assert_refused(self, code, call, *before):
-        """The call answers the code and all slots stay as they were."""
-        fill = [s.set_roots(slot, 2, [slot, 7]) for slot in range(4)] + list(before)
-        found = s.after_create(*fill, *s.get_all(), call, *s.get_all())
-        self.assertEqual(found[-5], [code])
-        self.assertEqual(found[-4:], found[-9:-5])
 
 
 class SetPolynomial(Kept):
@@ -231,6 +209,46 @@ class AddMultiples(Kept):
     def test_slot_is_told_before_factor(self):
         for slots in ((4, 0, 0), (0, 4, 0), (0, 0, 4)):
             self.assert_refused(-2, s.add_multiples(slots[0], 1001, slots[1], 1001, slots[2]))
+
+
+class Summary(unittest.TestCase):
+    def test_after_create(self):
+        self.assertEqual(s.run(s.create(), s.summary()), [[0], [4, 0, 0, 0, 0]])
+
+    def test_after_stores(self):
+        calls = [s.set_polynomial(0, 3, [1, 0, 2, 0, 0]), s.set_roots(1, 1, [5] * 6), s.set_roots(3, 1, [])]
+        self.assertEqual(s.last(*calls, s.summary()), [4, 3, 7, 0, 1])
+        more = [s.derivative(1, 2), s.set_polynomial(3, 1, [0, 0])]
+        self.assertEqual(s.last(*calls, *more, s.summary()), [4, 3, 7, 6, 0])
+        self.assertEqual(s.last(*calls, s.subtract_multiples(1, 2, 1, 2, 0), s.summary()), [4, 0, 7, 0, 1])
+        self.assertEqual(s.last(*calls, s.add_multiples(0, 1, 1, 1, 2), s.summary()), [4, 3, 7, 7, 1])
+
+    def test_each_slot_has_its_own_place(self):
+        for slot in range(4):
+            for count in range(8):
+                expected = [4, 0, 0, 0, 0]
+                expected[1 + slot] = count
+                self.assertEqual(s.last(s.set_polynomial(slot, 1, [1] * count), s.summary()), expected)
+
+    def test_after_refused_stores(self):
+        fill = [s.set_roots(slot, 1, [1] * slot) for slot in range(4)]
+        refused = [
+            s.set_polynomial(0, 1, [1001, 1]), s.set_polynomial(4, 1, [1]), s.set_roots(1, 0, [1, 1]),
+            s.add_multiples(3, 1001, 3, 1, 2), s.subtract_multiples(3, 1, 3, 1001, 2), s.derivative(3, 4)]
+        found = s.after_create(*fill, *refused, s.summary())
+        self.assertEqual(found[-1], [4, 1, 2, 3, 4])
+        large = [s.set_polynomial(0, 1, [0, 0, 1]), *s.scaled_by_powers(0, 10), s.derivative(0, 3)]
+        found = s.after_create(*fill, *large, s.summary())
+        self.assertEqual(found[-2:], [[-75], [4, 3, 2, 3, 4]])
+
+    def test_after_a_second_create(self):
+        found = s.run(s.create(), s.set_roots(2, 1, [1]), s.summary(), s.create(), s.summary())
+        self.assertEqual(found[2:], [[4, 0, 0, 2, 0], [0], [4, 0, 0, 0, 0]])
+
+    def test_does_not_change(self):
+        calls = [s.set_polynomial(1, 2, [1, 2]), *s.get_all(), s.summary(), *s.get_all()]
+        found = s.after_create(*calls)
+        self.assertEqual(found[1:5], found[6:])
 
 
 class TooLarge(Kept):
